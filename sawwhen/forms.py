@@ -1,4 +1,4 @@
-"""The forms of the parts of houses, states and deeds; each function here takes any object as the thing."""
+"""The forms of the parts of houses, states, deeds and events; each function here takes any object as the thing."""
 
 from sawwhen.groups import groups_of
 
@@ -6,6 +6,7 @@ MOST_PEOPLE = 4
 MOST_PARENTS = 5
 MOST_ENTRIES = 12
 GROUPS = 3
+LAST_MOMENT = 99
 
 KINDS = ("allow", "bar")
 
@@ -40,6 +41,15 @@ def is_word(thing, words):
 def is_row(thing, length):
     """Whether thing is a tuple of this length."""
     return isinstance(thing, tuple) and len(thing) == length
+
+
+def is_same(thing, model):
+    """Whether thing is equal to the model, of tuples, words and integers, in kind too, so that True is not 1."""
+    if isinstance(model, tuple):
+        return is_row(thing, len(model)) and all([is_same(part, other) for part, other in zip(thing, model)])
+    if isinstance(model, str):
+        return isinstance(thing, str) and thing == model
+    return is_integer(thing, model, model)
 
 
 def ascends(things):
@@ -157,3 +167,21 @@ def is_deed(thing, people, folders):
     if len(thing) != len(names) + 1:
         return False
     return all([is_part(part, name, people, folders) for part, name in zip(thing[1:], names)])
+
+
+def is_look(thing, people, folders):
+    """Whether thing is a look of a house with so many people and folders."""
+    if not is_row(thing, 3):
+        return False
+    word, person, folder = thing
+    return is_word(word, ("look",)) and is_number(person, people) and is_number(folder, folders)
+
+
+def is_event(thing, people, folders):
+    """Whether thing is an event of a house with so many people and folders."""
+    if not is_row(thing, 3):
+        return False
+    what, early, late = thing
+    if not is_deed(what, people, folders) and not is_look(what, people, folders):
+        return False
+    return is_integer(early, 0, LAST_MOMENT) and is_integer(late, early, LAST_MOMENT)

@@ -64,6 +64,15 @@ def need_folder(house, folder):
         raise BadFolder("this is no folder of the house")
 
 
+def need_view(house, rule, state, person, folder):
+    """Raise the error that is named for the first of these that is not as it should be."""
+    need_house(house)
+    need_rule(rule)
+    need_state(house, state)
+    need_person(house, person)
+    need_folder(house, folder)
+
+
 def first_state(house, rule):
     """Return the state of the house in which everybody has just logged in."""
     need_house(house)
@@ -73,11 +82,7 @@ def first_state(house, rule):
 
 def sees(house, rule, state, person, folder):
     """Whether the person sees the folder in the state."""
-    need_house(house)
-    need_rule(rule)
-    need_state(house, state)
-    need_person(house, person)
-    need_folder(house, folder)
+    need_view(house, rule, state, person, folder)
     return person_sees(rule, state, person, folder)
 
 

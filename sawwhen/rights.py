@@ -37,15 +37,15 @@ def counts_for(who, person, groups):
     return number in groups
 
 
-def deciding_kinds(rule, state, person, folder):
-    """Return the list of the kinds of the entries that decide whether the person sees the folder."""
+def deciding_entries(rule, state, person, folder):
+    """Return the list of the entries that decide whether the person sees the folder, those nearest to it first."""
     parents, shut, entries, _, _ = state
     groups = counted_groups(rule, state, person)
     deciding = []
     for at in way_of(parents, shut, folder):
         for place, who, kind in entries:
             if place == at and counts_for(who, person, groups):
-                deciding.append(kind)
+                deciding.append((place, who, kind))
         if deciding and rule[0] == "near":
             break
     return deciding
@@ -53,5 +53,5 @@ def deciding_kinds(rule, state, person, folder):
 
 def person_sees(rule, state, person, folder):
     """Whether the person sees the folder."""
-    deciding = deciding_kinds(rule, state, person, folder)
-    return "allow" in deciding and "bar" not in deciding
+    kinds = [kind for _, _, kind in deciding_entries(rule, state, person, folder)]
+    return "allow" in kinds and "bar" not in kinds

@@ -1,4 +1,4 @@
-"""What each deed makes of a state, for arguments that are known to be good."""
+"""What each deed or look makes of a state, for arguments that are known to be good."""
 
 from sawwhen.forms import MOST_ENTRIES
 from sawwhen.groups import closes_ring, groups_of
@@ -73,6 +73,11 @@ def _login(rule, state, deed):
     return (parents, shut, entries, members, put_at(logins, deed[1], groups))
 
 
+def _look(rule, state, look):
+    """Return the state as it was: a look changes nothing."""
+    return state
+
+
 STEPS = {
     "allow": _put_entry,
     "bar": _put_entry,
@@ -83,10 +88,11 @@ STEPS = {
     "shut": _shut,
     "open": _shut,
     "login": _login,
+    "look": _look,
 }
 
 
-def step(rule, state, deed):
-    """Return the state after the deed."""
-    done = STEPS[deed[0]]
-    return done(rule, state, deed)
+def step(rule, state, what):
+    """Return the state after the deed or look."""
+    done = STEPS[what[0]]
+    return done(rule, state, what)
