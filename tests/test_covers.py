@@ -190,10 +190,20 @@ class AnyObject(unittest.TestCase):
         wanted = cover(case, ((2, True),))
         self.assertEqual([done for done, _ in wanted], [(), (0,), (0, 1)])
         self.assertIs(cover_holds(case, ((2, True),), wanted), True)
-        for done in ((False,), (0,), (False, 1), (0, True), (False, True)):
+        for done in ((False,), (False, 1), (0, True), (False, True)):
             tried = [place for place in wanted if len(place[0]) != len(done)]
-            tried.append((done, wanted[len(done)][1]))
-            self.assertIs(cover_holds(case, ((2, True),), tried), type(done[0]) is int and done == (0,), tried)
+            self.fails(tried + [(done, wanted[len(done)][1])], case, ((2, True),))
+
+    def test_the_events_done_ascend(self):
+        case = case_of(((JOIN0, 0, 0), (SHUT1, 0, 0), (SEE, 1, 1), (SEE, 2, 2)))
+        known = ((2, False), (3, True))
+        wanted = cover(case, known)
+        self.assertEqual([done for done, _ in wanted], [(), (0,), (0, 1), (0, 1, 2), (1,)])
+        self.assertIs(cover_holds(case, known, wanted), True)
+        for at, dones in ((4, ((0, 0), (1, 1), [1], (0, 1))), (2, ((1, 0), (0, 1, 1), (0, 0, 0), (0, 0, 1))),
+                          (3, ((2, 0, 1), (2, 1, 0), (0, 2, 1), (0, 1, 1, 1), (1, 1, 1, 0)))):
+            for done in dones:
+                self.fails(wanted[:at] + [(done, wanted[at][1])] + wanted[at + 1:], case, known)
 
 
 def least_cover(steps, many, known):

@@ -233,6 +233,8 @@ class LeastClashes(Checks, unittest.TestCase):
     def test_parts_of_unlike_lengths(self):
         case = case_of(((JOIN0, 0, 9), (SEE, 1, 1), (SEE, 5, 5), (SEE1, 9, 9)))
         self.told(case, ((1, True), (2, False), (3, False)), [((1, True), (2, False)), ((3, False),)])
+        case = case_of(((JOIN0, 0, 9), (SEE, 1, 1), (SEE1, 5, 5), (SEE, 9, 9)))
+        self.told(case, ((1, True), (2, False), (3, False)), [((1, True), (3, False)), ((2, False),)])
 
     def test_three_looks_that_cannot_be_together(self):
         # Who joins once and leaves once is not in, then out, then in again; but two of the three can be.
