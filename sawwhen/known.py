@@ -5,7 +5,6 @@ from sawwhen.forms import ascends, is_number, is_row
 from sawwhen.houses import is_state
 from sawwhen.looks import is_look_number, looks_of, need_look, word_for
 from sawwhen.orders import need_case
-from sawwhen.rights import person_sees
 from sawwhen.web import Web, numbers_of
 
 
@@ -195,10 +194,9 @@ def sure_sights(case, known):
     web = _web_left(case, known)
     _need_left(web)
     spots = [(person, folder) for person in range(case[0][0]) for folder in range(len(case[0][2]))]
-    seen = [[person_sees(case[1], state, person, folder) for person, folder in spots] for state in web.states]
-    return [spot for at, spot in enumerate(spots) if not _can_stay_unseen(web, [row[at] for row in seen])]
+    return [(person, folder) for person, folder in spots if not _can_stay_unseen(web, person, folder)]
 
 
-def _can_stay_unseen(web, seen):
-    """Whether some order of the web comes to no state that is seen."""
-    return web.further_by([not seen[state] for _, state in web.places])[0] > 0
+def _can_stay_unseen(web, person, folder):
+    """Whether in some order of the web the person can see the folder at no moment."""
+    return web.further_by([not sees for sees in web.sights(person, folder)])[0] > 0

@@ -3,8 +3,7 @@
 All arguments are known to be good here. The events done are kept as bits: that of event 3 is 1 << 3.
 """
 
-from sawwhen.rights import person_sees
-from sawwhen.steps import begin, step
+from sawwhen.results import Results
 
 
 def is_surely_ahead(event, other):
@@ -17,6 +16,14 @@ def bits_ahead(events):
     return [
         sum([1 << number for number, ahead in enumerate(events) if is_surely_ahead(ahead, event)]) for event in events
     ]
+
+
+def with_pairs(ahead, pairs):
+    """Return the list of the bits ahead of each event with those of the pairs put to them."""
+    rows = list(ahead)
+    for number, other in pairs:
+        rows[other] = rows[other] | (1 << number)
+    return rows
 
 
 def next_events(ahead, done):
@@ -47,48 +54,30 @@ def counts_by(steps, onward):
 class Web:
     """The places that are come to in the orders of a case, but for known looks that would come out otherwise.
 
-    places is the list of (events done, number of the state); place 0 is the beginning, and each step leads to a
-    place that stands behind it. states is the list of the states. steps is the list, for each place, of the list,
-    ascending, of the steps (event, place that it leads to, saw) from it; saw is None for a deed.
+    A lot, if it is told, holds events ahead of others. results tells what the events come to. places is the list of
+    (events done, number of the state); place 0 is the beginning, and each step leads to a place that stands behind
+    it. steps is the list, for each place, of the list, ascending, of the steps (event, place that it leads to, saw)
+    from it; saw is None for a deed.
     """
 
-    def __init__(self, case, known=()):
-        house, self._rule, self.events = case
+    def __init__(self, case, known=(), lot=()):
+        self.events = case[2]
         self.whole = (1 << len(self.events)) - 1
-        self.states = [begin(house, self._rule)]
+        self.results = Results(case)
         self.places = [(0, 0)]
         self.steps = []
-        self._known = dict(known)
-        self._state_numbers = {self.states[0]: 0}
         self._place_numbers = {self.places[0]: 0}
-        self._results = {}
-        self._grow()
+        self._grow(dict(known), with_pairs(bits_ahead(self.events), lot))
 
-    def _grow(self):
-        ahead = bits_ahead(self.events)
+    def _grow(self, known, ahead):
         while len(self.steps) < len(self.places):
             done, state = self.places[len(self.steps)]
             row = []
             for event in next_events(ahead, done):
-                after, saw = self._result_of(event, state)
-                if self._known.get(event, saw) == saw:
+                after, saw = self.results.after(event, state)
+                if known.get(event, saw) == saw:
                     row.append((event, self._number_of_place((done | (1 << event), after)), saw))
             self.steps.append(row)
-
-    def _result_of(self, event, state):
-        """Return the number of the state after the event, and whether it saw, None for a deed."""
-        if (event, state) not in self._results:
-            what = self.events[event][0]
-            stands = self.states[state]
-            saw = person_sees(self._rule, stands, what[1], what[2]) if what[0] == "look" else None
-            self._results[event, state] = (self._number_of_state(step(self._rule, stands, what)), saw)
-        return self._results[event, state]
-
-    def _number_of_state(self, state):
-        if state not in self._state_numbers:
-            self._state_numbers[state] = len(self.states)
-            self.states.append(state)
-        return self._state_numbers[state]
 
     def _number_of_place(self, place):
         if place not in self._place_numbers:
@@ -99,12 +88,12 @@ class Web:
     def number_of(self, done, state):
         """Return the number of the place with the tuple of events done and the state, None if there is none."""
         bits = sum([1 << event for event in done])
-        return self._place_numbers.get((bits, self._state_numbers.get(state)))
+        return self._place_numbers.get((bits, self.results.number_of(state)))
 
     def told_place(self, at):
         """Return the place of this number as a tuple of the events done, as numbers, and the state."""
         done, state = self.places[at]
-        return (numbers_of(done), self.states[state])
+        return (numbers_of(done), self.results.states[state])
 
     def is_end(self, at):
         """Whether all events are done at the place."""
@@ -116,7 +105,7 @@ class Web:
 
     def sights(self, person, folder):
         """Return the list, for each place, of whether the person sees the folder there."""
-        seen = [person_sees(self._rule, state, person, folder) for state in self.states]
+        seen = self.results.sights(person, folder)
         return [seen[state] for _, state in self.places]
 
     def ways(self):

@@ -77,6 +77,29 @@ def some_case(chance, most=5, share=None, many=None, people=None, folders=None, 
     return (house, rule or chance.choice(RULES), events)
 
 
+# Houses, and deeds and looks in them, by which looks see in some orders and not in others.
+LIVELY = (
+    (SMALL, (("join", 0, P0), ("leave", 0, P0), ("shut", 1), ("open", 1), ("bar", 0, P0), ("clear", 0, P0),
+             ("allow", 1, P0), ("leave", 0, P1), ("login", 0)), (("look", 0, 1), ("look", 0, 0), ("look", 1, 1))),
+    ((2, (0, 0), (False,) * 3, ((0, G1, "allow"), (1, G0, "allow"), (2, P0, "bar")), ((0, P0), (0, P1))),
+     (("join", 1, G0), ("leave", 1, G0), ("leave", 0, P0), ("move", 2, 1), ("move", 1, 2), ("shut", 1),
+      ("clear", 2, P0), ("login", 0), ("login", 1)), (("look", 0, 1), ("look", 0, 2), ("look", 1, 1), ("look", 1, 2))),
+    ((3, (), (True,), ((0, G0, "allow"), (0, G1, "allow"), (0, G2, "bar")), ()),
+     (("join", 0, P0), ("join", 0, P1), ("join", 1, ("p", 2)), ("join", 2, G0), ("join", 2, ("p", 2)), ("leave", 2, G0),
+      ("clear", 0, G2), ("login", 0)), (("look", 0, 0), ("look", 1, 0), ("look", 2, 0))),
+)
+
+
+def some_lively_case(chance, most=5, many=None, share=0.5):
+    """A case of at most so many events (or so many exactly) in which most looks see in some orders and not in others."""
+    house, deeds, looks = chance.choice(LIVELY)
+    many = chance.randint(2, most) if many is None else many
+    rule = chance.choice(RULES)
+    bounds = some_bounds(chance, many) if chance.random() < 0.4 else [(7, 7)] * many
+    whats = [chance.choice(looks if chance.random() < share else deeds) for _ in range(many)]
+    return (house, rule, tuple((what, early, late) for what, (early, late) in zip(whats, bounds)))
+
+
 def some_known(chance, case):
     """Known looks of a case, perhaps none or all of them, perhaps such as no order keeps."""
     share = chance.choice((0, 0.4, 0.7, 1))

@@ -4,10 +4,14 @@ import unittest
 from time import perf_counter
 
 from case_makers import BIG, looks_in
+from lot_makers import all_pairs, claim_of
+from sawwhen.held import held_sure, least_lots, orders_against
+from sawwhen.idle import idle_events, least_alike, needed_pairs, orders_alike, parting_order, swap_pairs, swap_path
 from sawwhen.known import asked_next, bounds_left, count_ahead, count_left, cover, cover_holds, least_clashes
 from sawwhen.known import order_left, pairs_left, state_left, sure_sights, word_left
 from sawwhen.looks import count_seen, look_orders, look_word, longest_sights, outcome_rows, outcomes
 from sawwhen.looks import sight_orders, sight_word
+from sawwhen.knows import chain_to, claim_holds, claim_orders, claim_word, doubt, learns, tell
 from sawwhen.orders import count_orders, is_order, places, sure_pairs, walk
 
 # All calls for a case take a small part of this; if each went through all orders they would take several times as long.
@@ -28,11 +32,43 @@ def ask_all(case):
         look_word(case, number), look_orders(case, number), count_seen(case, number), word_left(case, (), number)
 
 
+def ask_of_lots(case):
+    """Call each function of lots, idle deeds, alike orders and claims once."""
+    order = tuple(range(8))
+    last = order[::-1]
+    wishes = tuple(outcomes(case, order))
+    lot = tuple(pair for pair in all_pairs(case) if pair[0] < pair[1])
+    held_sure(case, wishes, lot), orders_against(case, wishes, lot), orders_against(case, (), lot[:6])
+    least_lots(case, wishes, [(at, at + 1) for at in range(6)])
+    idle_events(case), parting_order(case, 0), swap_pairs(case), needed_pairs(case)
+    orders_alike(case, order, last), swap_path(case, order, last), least_alike(case, last)
+    for number in looks_in(case)[:1]:
+        for claim in (claim_of(number, 6, 60), common_claim(number)):
+            claim_holds(case, order, claim), claim_word(case, claim), claim_orders(case, claim)
+            doubt(case, order, 0, claim), chain_to(case, order, (0, 1), claim)
+        for known in learns(case, order, 0):
+            tell(case, order, 0, known)
+
+
+def common_claim(number):
+    """A claim of claims that are common, six deep."""
+    claim = ("saw", number)
+    for _ in range(3):
+        claim = ("told", ("common", (0, 1), ("saw", number)), claim)
+    return ("not", claim)
+
+
 class Waits(unittest.TestCase):
     def test_each_case_is_answered_in_time(self):
         for name, case in BIG.items():
             begun = perf_counter()
             ask_all(case)
+            self.assertLess(perf_counter() - begun, SECONDS, name)
+
+    def test_what_is_asked_of_lots_and_claims(self):
+        for name, case in BIG.items():
+            begun = perf_counter()
+            ask_of_lots(case)
             self.assertLess(perf_counter() - begun, SECONDS, name)
 
 
