@@ -35,7 +35,7 @@ def _need_pairs(case, pairs):
 
 def _count_kept(case, wishes, lot):
     """Return the number of orders of the lot in which all wished outcomes come about."""
-    return Web(case, wishes, lot).further()[0]
+    return Web(case, wishes, lot).order_count()
 
 
 def _leaves_some(case, lot):

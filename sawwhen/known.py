@@ -39,20 +39,15 @@ def _web_left(case, known):
     return Web(case, known)
 
 
-def _count_of(web):
-    """Return the number of orders in the web."""
-    return web.further()[0]
-
-
 def _need_left(web):
     """Raise BadClash if no order is left in the web."""
-    if _count_of(web) == 0:
+    if web.order_count() == 0:
         raise BadClash("the known looks leave no order")
 
 
 def count_left(case, known):
     """Return the number of orders that are left."""
-    return _count_of(_web_left(case, known))
+    return _web_left(case, known).order_count()
 
 
 def count_ahead(case, known, number, other):
@@ -87,16 +82,7 @@ def word_left(case, known, number):
     web = _web_left(case, known)
     need_look(case, number)
     _need_left(web)
-    return word_for(_counts_seen(web)[number], _count_of(web))
-
-
-def _counts_seen(web):
-    """Return the list, for each event, of in how many orders of the web it saw, 0 for a deed."""
-    counts = [0 for _ in web.events]
-    for _, event, saw, count in web.used_steps():
-        if saw:
-            counts[event] += count
-    return counts
+    return word_for(web.seen_counts()[number], web.order_count())
 
 
 def state_left(case, known):
@@ -182,8 +168,8 @@ def asked_next(case, known):
     web = _web_left(case, known)
     _need_left(web)
     told = dict(known)
-    count = _count_of(web)
-    seen = _counts_seen(web)
+    count = web.order_count()
+    seen = web.seen_counts()
     worst = {number: max(seen[number], count - seen[number]) for number in looks_of(case) if number not in told}
     least = min(worst.values(), default=0)
     return [number for number in worst if worst[number] == least]

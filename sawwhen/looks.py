@@ -70,7 +70,7 @@ def count_seen(case, number):
     """Return the number of orders in which the look saw."""
     need_case(case)
     need_look(case, number)
-    return Web(case, ((number, True),)).further()[0]
+    return Web(case, ((number, True),)).order_count()
 
 
 def _need_spot(case, person, folder):

@@ -128,6 +128,10 @@ class Web:
                 further[at] = 1 if self.is_end(at) else sum([further[to] for _, to, _ in self.steps[at]])
         return further
 
+    def order_count(self):
+        """Return the number of orders."""
+        return self.further()[0]
+
     def order_by(self, worth):
         """Return the order that takes, each time, the first step to a place of worth, or else the first step.
 
@@ -151,6 +155,14 @@ class Web:
             (self.places[at][0], event, saw, ways[at] * further[to])
             for at, row in enumerate(self.steps) for event, to, saw in row if further[to]
         ]
+
+    def seen_counts(self):
+        """Return the list, for each event, of in how many orders it saw, 0 for a deed."""
+        counts = [0 for _ in self.events]
+        for _, event, saw, count in self.used_steps():
+            if saw:
+                counts[event] += count
+        return counts
 
     def outcome_counts(self):
         """Return the dict from outcomes, as the bits of the looks that saw, to how many orders and the least one."""

@@ -71,6 +71,11 @@ class Idle(Checks, unittest.TestCase):
         self.told(case_of(in_a_row(JOIN0, JOIN0, SEE)), [0, 1, 2], [(0,), (1,)])
         self.told(case_of(at_once(JOIN0, JOIN0, SEE)), [2], [()])
 
+    def test_the_lots_ascend(self):
+        # The person sees by their own entry, or by the group and its entry.
+        case = case_of(in_a_row(JOIN0, ("allow", 1, P0), ("allow", 1, G0), SEE), house=TWO_WAYS)
+        self.told(case, [0, 1, 2, 3], [(0, 2), (1,)])
+
     def test_together_but_not_each(self):
         self.told(UNDONE, [0, 2], [(0, 1)])
         # Who is in leaves and joins again: the joining is needed because of the leaving.

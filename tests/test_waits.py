@@ -1,10 +1,13 @@
 """Cases of as many orders as can be are answered in a time that a caller can wait for."""
 
 import unittest
+from contextlib import suppress
 from time import perf_counter
 
 from case_makers import BIG, looks_in
 from lot_makers import all_pairs, claim_of
+from sawwhen.desk import Desk
+from sawwhen.errors import BadText
 from sawwhen.held import held_sure, least_lots, orders_against
 from sawwhen.idle import idle_events, least_alike, needed_pairs, orders_alike, parting_order, swap_pairs, swap_path
 from sawwhen.known import asked_next, bounds_left, count_ahead, count_left, cover, cover_holds, least_clashes
@@ -12,7 +15,10 @@ from sawwhen.known import order_left, pairs_left, state_left, sure_sights, word_
 from sawwhen.looks import count_seen, look_orders, look_word, longest_sights, outcome_rows, outcomes
 from sawwhen.looks import sight_orders, sight_word
 from sawwhen.knows import chain_to, claim_holds, claim_orders, claim_word, doubt, learns, tell
+from sawwhen.live import House
 from sawwhen.orders import count_orders, is_order, places, sure_pairs, walk
+from sawwhen.rules import rule_words, rules_alike, safest_rules
+from sawwhen.texts import read_case, show_case
 
 # All calls for a case take a small part of this; if each went through all orders they would take several times as long.
 SECONDS = 10
@@ -58,6 +64,27 @@ def common_claim(number):
     return ("not", claim)
 
 
+def ask_of_rules_and_texts(case):
+    """Call each function of rules, live houses, texts and the desk, with as much as can be."""
+    rules_alike(case, ("near", "drops", "login", False)), rule_words(case)
+    safest_rules(case, tuple((number, True) for number in looks_in(case)))
+    house = House(case[0], case[1])
+    whats = [what for what, _, _ in case[2]] * 25
+    for what in whats:
+        if what[0] == "look":
+            house.look(what[1], what[2])
+        else:
+            house.do(what)
+    house.with_rule(("near", "drops", "login", False)), house.copy(), house == house.copy(), house[0], list(house)
+    desk = Desk()
+    desk.say("case " + show_case(house.case(30)).replace("\n", " / "))
+    for row in ("orders", "left", "idle", "show", "who 0", "why 0 0", "look 0 0", "undo"):
+        desk.say(row)
+    for text in ("\n" * 10000, "bar keeps now deep\npeople 2" + "\nshut 0 @ 0 9" * 700):
+        with suppress(BadText):
+            read_case(text)
+
+
 class Waits(unittest.TestCase):
     def test_each_case_is_answered_in_time(self):
         for name, case in BIG.items():
@@ -69,6 +96,12 @@ class Waits(unittest.TestCase):
         for name, case in BIG.items():
             begun = perf_counter()
             ask_of_lots(case)
+            self.assertLess(perf_counter() - begun, SECONDS, name)
+
+    def test_what_is_asked_of_rules_and_texts(self):
+        for name, case in BIG.items():
+            begun = perf_counter()
+            ask_of_rules_and_texts(case)
             self.assertLess(perf_counter() - begun, SECONDS, name)
 
 
