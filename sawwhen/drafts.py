@@ -32,7 +32,7 @@ class Draft:
         return self.is_whole() and self._take_behind(kind, row[1:])
 
     def _can_grow(self):
-        """Whether the folders can become those of a house: no more could lie in them than others in folder 0."""
+        """Whether the folders can become those of a house: if any more make them so, those that lie in folder 0 do."""
         return is_parents(self._parents + (0,) * (MOST_PARENTS - len(self._parents)))
 
     def is_whole(self):
@@ -52,11 +52,11 @@ class Draft:
         self._events = self._events + (parts,)
         return len(self._events) <= MOST_EVENTS and is_event(parts, self._people, self._folders())
 
-    def house(self):
+    def told_house(self):
         """Return the house that was read."""
         shut = tuple([folder in self._shut for folder in range(self._folders())])
         return (self._people, self._parents, shut, self._entries, self._members)
 
-    def events(self):
+    def told_events(self):
         """Return the tuple of the events that were read."""
         return self._events

@@ -13,7 +13,7 @@ INNER = ("g", 0)
 OUTER = ("g", 1)
 
 # Person 0 is in the inner group, and that one in the outer group.
-NESTED = ((0, PERSON), (1, INNER))
+NESTED = ((0, ("p", 0)), (1, ("g", 0)))
 
 
 def _is_within(rule, other):

@@ -72,7 +72,7 @@ def read_case(text):
             raise BadText(at + 1)
     if not draft.is_whole():
         raise BadText(len(lines))
-    return (draft.house(), rule_of(lines[0]), draft.events())
+    return (draft.told_house(), rule_of(lines[0]), draft.told_events())
 
 
 def read_deed(house, text):
