@@ -50,7 +50,8 @@ def count_orders(case):
     ways = [1] + [0] * ((1 << len(ahead)) - 1)
     for done in range(len(ways)):
         for event in next_events(ahead, done):
-            ways[done | (1 << event)] += ways[done]
+            after = done | (1 << event)
+            ways[after] = ways[after] + ways[done]
     return ways[-1]
 
 
