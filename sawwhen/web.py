@@ -113,7 +113,7 @@ class Web:
         ways = [1] + [0] * (len(self.places) - 1)
         for at, row in enumerate(self.steps):
             for _, to, _ in row:
-                ways[to] += ways[at]
+                ways[to] = ways[to] + ways[at]
         return ways
 
     def further(self):
